@@ -1,0 +1,101 @@
+"""The interface: each name stands in its own file, with its arguments and in its own class."""
+
+import ast
+import inspect
+import unittest
+from importlib import import_module
+from pathlib import Path
+
+PACKAGE = Path(__file__).resolve().parent.parent / "wallwalks"
+
+FUNCTIONS = {
+    "goldens": ("golden(number)",),
+    "tables": (
+        "chain(ties)", "named(name)", "part(table, room)", "beside(table, other)", "renamed(table, renaming)",
+        "likeness(table, other)",
+    ),
+    "changes": (
+        "plain(table)", "level(table, vector, button)", "parting(change, other)", "many_words(change)",
+        "least_words(change)",
+    ),
+    "steps": (
+        "is_step(table, word, value)", "stepped(table, word, step)", "steps_of(table, word)", "is_least(table, word)",
+        "spare(table, word)", "way(table, word, other_word)",
+    ),
+    "ends": (
+        "kinds(table)", "names(table)", "weighing(table)", "is_finite(table)", "is_finite_room(table, room)",
+        "how_many(table)", "top(table)", "room_top(table, room)", "degrees(table)", "climbing(table)",
+    ),
+    "counts": (
+        "room_polynomial(table, room)", "growth(table)", "how_many_at(table, length)", "counts(table, many)",
+        "how_many_by(table, length, modulus)", "speed(table)",
+    ),
+    "walls": (
+        "wall_turned(change, wall)", "pairing(wall, other)", "meeting(wall, other)", "standing(wall, other)",
+        "leading(wall, other)", "walls_at(table, depth)", "walls_all(table)",
+    ),
+    "crossings": (
+        "crosses(change, wall)", "crossed(change)", "passed(table, word)", "place_of(change, wall)",
+        "crossing(table, walls)",
+    ),
+}
+
+# For each class its making, properties, methods, static methods and signs.
+CLASSES = {
+    ("goldens", "Golden"): (
+        "(whole, gold=0)", ("whole", "gold", "sign", "text"), ("power(exponent)", "is_below(other)"), ("read(text)",),
+        ("__add__", "__radd__", "__sub__", "__rsub__", "__mul__", "__rmul__", "__neg__", "__pow__", "__eq__", "__bool__"),
+    ),
+    ("tables", "Table"): (
+        "(ties)", ("size", "ties", "weights", "pieces", "is_joined", "text"), ("tie(button, other_button)",),
+        ("read(text)",), ("__eq__",),
+    ),
+    ("changes", "Change"): (
+        "(table, word)", ("table", "word", "length", "images", "fronts", "backs", "parity", "text"),
+        ("power(exponent)", "inverse()", "turned(vector)"), ("read(table, text)",),
+        ("__mul__", "__pow__", "__eq__", "__bool__"),
+    ),
+    ("walls", "Wall"): (
+        "(table, word, button)", ("table", "axis", "column", "depth", "road", "family", "mirror"), (), (), ("__eq__",),
+    ),
+}
+
+
+def signature(function, drop=0):
+    """The name and the arguments of a function, the first ones left out."""
+    arguments = list(inspect.signature(function).parameters.values())[drop:]
+    return f"{function.__name__}({', '.join(map(str, arguments))})"
+
+
+class InterfaceTest(unittest.TestCase):
+    def defined(self, module):
+        return {node.name for node in ast.parse((PACKAGE / f"{module}.py").read_text()).body
+                if isinstance(node, (ast.FunctionDef, ast.ClassDef))}
+
+    def test_functions(self):
+        for module, told in FUNCTIONS.items():
+            for text in told:
+                name = text.split("(")[0]
+                function = getattr(import_module(f"wallwalks.{module}"), name)
+                self.assertIn(name, self.defined(module))
+                self.assertEqual(signature(function), text)
+
+    def test_classes(self):
+        for (module, name), (making, properties, methods, statics, signs) in CLASSES.items():
+            self.assertIn(name, self.defined(module))
+            kind = getattr(import_module(f"wallwalks.{module}"), name)
+            self.assertEqual(signature(kind), name + making)
+            own = vars(kind)
+            for told in properties:
+                self.assertIsInstance(own[told], property)
+            for text in methods:
+                self.assertEqual(signature(own[text.split("(")[0]], drop=1), text)
+            for text in statics:
+                self.assertIsInstance(own[text.split("(")[0]], staticmethod)
+                self.assertEqual(signature(getattr(kind, text.split("(")[0])), text)
+            for told in signs:
+                self.assertIn(told, own)
+
+
+if __name__ == "__main__":
+    unittest.main()

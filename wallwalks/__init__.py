@@ -1,0 +1,1 @@
+"""Wallwalks: buttons that undo themselves, and what stays when nothing cancels."""
