@@ -127,7 +127,8 @@ class TurningTest(CallCase):
     def test_wrong_partings(self):
         change = Change(FULL, (0,))
         for value in odd_values() + [FULL]:
-            self.refuses(NotAChange(value), parting, change=value, other=value)
+            self.refuses(NotAChange(value), parting, change=value, other=change)
+            self.refuses(NotAChange(value), parting, change=value, other=[])
             self.refuses(NotAChange(value), parting, change=change, other=value)
         self.refuses(OtherTable(), parting, change=change, other=plain(PAIR))
 
@@ -186,6 +187,9 @@ class SignTest(CallCase):
     def test_unlike_tables(self):
         with self.assertRaises(OtherTable):
             Change(FULL, (0,)) * Change(PAIR, (0,))
+        for value in (3, "x", FULL, None):
+            with self.assertRaises(TypeError):
+                Change(FULL, (0,)) * value
         same = Change(FULL, (0,)) * Change(Table(FULL.ties), (0, 1))
         self.assertEqual(same.word, (1,))
 
@@ -244,6 +248,9 @@ class LeastWordTest(CallCase):
         too_long = longest * Change(PAIR, (1,))
         self.refuses(TooMany(1000), many_words, change=too_long)
         self.refuses(TooMany(1000), least_words, change=too_long)
+        just_as_many = Change(named("H4"), (2, 1, 0, 3, 2, 1, 0, 3, 2, 1, 0, 3, 2, 1, 3))
+        self.assertEqual((many_words(just_as_many), len(least_words(just_as_many))), (1000, 1000))
+        self.assertEqual(least_words(just_as_many), oracle.least_words(named("H4").ties, just_as_many.word))
         both = Change(beside(named("A4"), named("A1")), (0, 1, 0, 2, 1, 0, 3, 2, 1, 0, 4))
         self.assertEqual(many_words(both), 768 * 11)
         self.refuses(TooMany(1000), least_words, change=both)

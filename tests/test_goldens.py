@@ -74,6 +74,12 @@ class GoldenTest(CallCase):
             self.assertEqual((x.whole, x.gold, y.whole, y.gold), (a, b, c, d))
         self.assertEqual(G * G, G + 1)
 
+    def test_signs_with_anything_else(self):
+        for value in ("1", None, (1,), [], True):
+            for act in (lambda: G + value, lambda: value + G, lambda: G - value, lambda: value - G, lambda: G * value,
+                        lambda: value * G):
+                self.assertRaises(TypeError, act)
+
     def test_signs_give_goldens(self):
         for made in (G + 1, 1 + G, G - 1, 1 - G, G * 2, 2 * G, -G, G ** 0, G ** 1, G - G):
             self.assertIs(type(made), Golden)
@@ -123,7 +129,7 @@ class GoldenTest(CallCase):
 
     def test_wrong_texts(self):
         wrong = (
-            "", "-", "+", "g", "1g", "-1g", "+1", "+1+1g", "00", "01", "-0", "-0+1g", "1+0g", "1-0g", "1+01g", "1++1g",
+            "", "-", "+", "g", "1g", "-1g", "12g", "-12g", "+12g", "+1", "+1+1g", "00", "01", "-0", "-0+1g", "1+0g", "1-0g", "1+01g", "1++1g",
             "1+-1g", "1--1g", "1+1", "1+1g ", " 1", "1 ", "1 +1g", "1+1G", "1+g", "1+1g1", "1+1gg", "--1", "1_0", "0x1",
             "1.0", "1e1", "+g", "-g", "1-", "1+1-1g", "1+2+3g", "g1",
         )

@@ -251,7 +251,8 @@ class MakingTest(CallCase):
             self.refuses(InvalidRenaming(value), renamed, table=table, renaming=value)
         for value in odd_values():
             self.refuses(NotATable(value), renamed, table=value, renaming=value)
-            self.refuses(NotATable(value), likeness, table=value, other=value)
+            self.refuses(NotATable(value), likeness, table=value, other=table)
+            self.refuses(NotATable(value), likeness, table=value, other=[])
             self.refuses(NotATable(value), likeness, table=table, other=value)
 
     def test_likeness_is_the_first_renaming(self):

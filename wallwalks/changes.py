@@ -224,27 +224,25 @@ def rests_of(change):
     return rests
 
 
-def count_of_words(rests):
-    """How many least words the change has that these rests (rests_of) are of."""
-    many = 1
+def count_of_words(change, rests):
+    """How many least words the change has; its rests (rests_of) are given."""
     counted = {}
     for marks in reversed(list(rests)):
-        many = sum([counted[rest] for _, rest in rests[marks]]) if rests[marks] else 1
-        counted[marks] = many
-    return many
+        counted[marks] = sum([counted[rest] for _, rest in rests[marks]]) if rests[marks] else 1
+    return counted[change.marks]
 
 
 def many_words(change):
     """How many least words a change has."""
     change_check(change)
-    return count_of_words(rests_of(change))
+    return count_of_words(change, rests_of(change))
 
 
 def least_words(change):
     """All least words of a change, ascending."""
     change_check(change)
     rests = rests_of(change)
-    if count_of_words(rests) > MOST_LOT:
+    if count_of_words(change, rests) > MOST_LOT:
         raise TooMany(MOST_LOT)
     begun = [((), change.marks)]
     for _ in range(change.length):
