@@ -172,6 +172,8 @@ class SignTest(CallCase):
         self.assertEqual(long.inverse().word[::-1].count(0), 640)
         self.assertEqual(long.backs, (5,))
         self.assertEqual(long.turned((0,) * 6), (Golden(0),) * 6)
+        self.assertEqual(long.turned(u.images[0]), (long * u).images[0])
+        self.assertEqual(u.inverse().turned(long.images[5]), (u ** 63).images[5])
         self.assertEqual(Change(table, long.word[:60]).word, long.word[:60])
         self.assertEqual((u.inverse() * long, long * u.inverse()), (u ** 63, u ** 63))
         self.refuses(InvalidWord(60), Change, table=table, word=long.word)

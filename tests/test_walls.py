@@ -261,6 +261,16 @@ class ListTest(CallCase):
         self.assertEqual(len(walls_at(free, 9)), 3 * 2 ** 8)
         self.refuses(TooMany(1000), walls_at, table=free, depth=10)
 
+    def test_just_as_many_as_can_be(self):
+        for text, depth in (
+            ("table: 1 4 5 5 5; 4 1 4 6 3; 5 4 1 4 0; 5 6 4 1 0; 5 3 0 0 1", 5),
+            ("table: 1 3 2 4 2; 3 1 4 2 2; 2 4 1 2 6; 4 2 2 1 3; 2 2 6 3 1", 9),
+        ):
+            table = Table.read(text)
+            self.assertEqual(len(axes_by_depth(table.ties, depth)[-1]), 1000)
+            self.assertEqual(len(walls_at(table, depth)), 1000)
+            self.refuses(TooMany(1000), walls_at, table=table, depth=depth + 1)
+
     def test_equal_calls_return_equal_things(self):
         self.assertEqual(walls_at(RING, 3), walls_at(Table(RING.ties), 3))
 

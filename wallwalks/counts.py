@@ -80,7 +80,7 @@ def lowered(above, below, parts):
     return above, below
 
 
-def growth_of(table):
+def growth(table):
     """The numerator and the denominator of the growth of a table."""
     if is_finite(table):
         return (room_polynomial(table, tuple(range(table.size))), (1,))
@@ -93,15 +93,9 @@ def growth_of(table):
     return (below[::-1], above[start:][::-1])
 
 
-def growth(table):
-    """The numerator and the denominator of the growth of a table."""
-    table_check(table)
-    return growth_of(table)
-
-
 def counts_of(table, many):
     """The numbers of changes of the lengths below `many`."""
-    numerator, denominator = growth_of(table)
+    numerator, denominator = growth(table)
     return series(numerator, denominator, many)
 
 
@@ -124,7 +118,7 @@ def how_many_by(table, length, modulus):
     table_check(table)
     number_check(length, 0, MOST_FAR)
     number_check(modulus, 2, MOST_MODULUS)
-    numerator, denominator = growth_of(table)
+    numerator, denominator = growth(table)
     return far_coefficient(numerator, denominator, length, modulus)
 
 

@@ -5,7 +5,7 @@ from wallwalks.errors import AllFinite, NotFinite
 from wallwalks.goldens import golden_vector
 from wallwalks.refusals import room_check
 from wallwalks.tables import name_of, part, table_check
-from wallwalks.turning import ONE, NOUGHT, level_at, marks_ahead, pair_sign, plain_marks, turned
+from wallwalks.turning import ONE, level_at, marks_ahead, pair_sign, plain_marks, turned
 
 WILD = "wild"
 
@@ -94,15 +94,23 @@ def grown(table, vector):
     return tuple([(x + 2 * a, y + 2 * b) for (x, y), (a, b) in zip(turns, vector)])
 
 
+def lowest_below(table, vector, piece):
+    """The lowest button of the piece at which the level is below 0; None if there is none."""
+    for button in piece:
+        if level_sign(table, vector, button) < 0:
+            return button
+    return None
+
+
 def weighing_of(table, piece, kind):
-    """A vector that weighs one piece as its kind tells, 0 elsewhere."""
-    vector = tuple([ONE if button in piece else NOUGHT for button in range(table.size)])
+    """A vector that weighs this piece as its kind tells; what it has elsewhere does not count."""
+    vector = (ONE,) * table.size
     if kind == "flat":
         # No number gets above that of a vector of whole numbers with all levels 0, so this ends there.
-        low = [button for button in piece if level_sign(table, vector, button) < 0]
-        while low:
-            vector = one_more_at(vector, low[0])
-            low = [button for button in piece if level_sign(table, vector, button) < 0]
+        low = lowest_below(table, vector, piece)
+        while low is not None:
+            vector = one_more_at(vector, low)
+            low = lowest_below(table, vector, piece)
         return vector
     sign = 1 if kind == "finite" else -1
     while any([level_sign(table, vector, button) != sign for button in piece]):
