@@ -257,5 +257,102 @@ class LanguageTest(unittest.TestCase):
                 self.assertIn(name, assigned, place)
 
 
+CHANGING = {"append", "clear", "extend", "insert", "pop", "remove", "reverse", "setdefault", "sort", "update", "add", "discard"}
+MAKERS = {"list", "dict", "set", "sorted"}
+
+
+class QuietCode:
+    """All that properties and operators of the package run, themselves too, found by names alone."""
+
+    def __init__(self):
+        self.functions, self.methods, self.makings, self.held, start = {}, {}, {}, set(), []
+        for path, _, tree in trees():
+            for part in tree.body:
+                if isinstance(part, ast.FunctionDef):
+                    self.functions.setdefault(part.name, []).append((path.name, part))
+                if isinstance(part, ast.ClassDef):
+                    own = [node for node in part.body if isinstance(node, ast.FunctionDef)]
+                    self.makings[part.name] = [(path.name, node) for node in own if node.name == "__init__"]
+                    for node in own:
+                        self.methods.setdefault(node.name, []).append((path.name, node))
+                        told = [ast.unparse(decorator) for decorator in node.decorator_list]
+                        if "property" in told or node.name.startswith("__") and node.name not in ("__init__", "__exit__"):
+                            start.append((path.name, node))
+            for node in ast.walk(tree):
+                if isinstance(node, ast.Attribute) and isinstance(node.ctx, ast.Store):
+                    self.held.add(node.attr)
+        self.reached = self.all_from(start)
+
+    def called(self, node):
+        if isinstance(node.func, ast.Name):
+            return self.makings.get(node.func.id, []) + self.functions.get(node.func.id, [])
+        return self.methods.get(node.func.attr, []) if isinstance(node.func, ast.Attribute) else []
+
+    def all_from(self, start):
+        found = list(start)
+        for _, function in found:
+            for node in ast.walk(function):
+                if isinstance(node, ast.Call):
+                    found += [place for place in self.called(node) if place not in found]
+        return found
+
+    def is_created(self, value):
+        """Whether an expression is a new list, dict or object of an own class."""
+        if isinstance(value, (ast.List, ast.Dict, ast.ListComp, ast.DictComp)):
+            return True
+        if isinstance(value, ast.BinOp):
+            return self.is_created(value.left) or isinstance(value.op, ast.Add) and self.is_created(value.right)
+        if isinstance(value, ast.Subscript):
+            return isinstance(value.slice, ast.Slice)
+        return (isinstance(value, ast.Call) and isinstance(value.func, ast.Name)
+                and value.func.id in MAKERS | set(self.makings))
+
+    def created(self, function):
+        """The local names that are assigned nothing but what the function creates."""
+        told, others = set(), {argument.arg for argument in function.args.args}
+        for node in ast.walk(function):
+            if isinstance(node, ast.Assign):
+                for target in node.targets:
+                    if isinstance(target, ast.Name) and self.is_created(node.value):
+                        told.add(target.id)
+                    else:
+                        others |= {x.id for x in ast.walk(target) if isinstance(x, ast.Name) and isinstance(x.ctx, ast.Store)}
+            if isinstance(node, (ast.For, ast.comprehension)):
+                others |= {x.id for x in ast.walk(node.target) if isinstance(x, ast.Name)}
+        return told - others
+
+
+class QuietTest(unittest.TestCase):
+    """What properties and operators run changes nothing but what it created, and calls nothing that is held or passed."""
+
+    def setUp(self):
+        self.code = QuietCode()
+        self.assertGreater(len(self.code.reached), 20)
+
+    def test_nothing_is_called_by_the_name_of_an_attribute(self):
+        for file, function in self.code.reached:
+            for node in ast.walk(function):
+                if isinstance(node, ast.Call) and isinstance(node.func, ast.Attribute):
+                    self.assertNotIn(node.func.attr, self.code.held, (file, node.lineno))
+
+    def test_nothing_that_is_passed_is_called(self):
+        for file, function in self.code.reached:
+            local = {name for name, _ in names_bound(function)} - {function.name}
+            for node in ast.walk(function):
+                if isinstance(node, ast.Call):
+                    self.assertIsInstance(node.func, (ast.Name, ast.Attribute), (file, node.lineno))
+                    if isinstance(node.func, ast.Name):
+                        self.assertNotIn(node.func.id, local, (file, node.lineno))
+
+    def test_only_what_was_created_is_changed(self):
+        for file, function in self.code.reached:
+            own = self.code.created(function) | ({"self"} if function.name == "__init__" else set())
+            for node in ast.walk(function):
+                if isinstance(node, (ast.Attribute, ast.Subscript)) and isinstance(node.ctx, (ast.Store, ast.Del)):
+                    self.assertIn(ast.unparse(node.value), own, (file, node.lineno))
+                if isinstance(node, ast.Call) and isinstance(node.func, ast.Attribute) and node.func.attr in CHANGING:
+                    self.assertIn(ast.unparse(node.func.value), own, (file, node.lineno))
+
+
 if __name__ == "__main__":
     unittest.main()

@@ -78,9 +78,8 @@ class Wall:
 
 def own_button(axis):
     """The button whose axis this is, None if it is no button's."""
-    if any([pair not in (NOUGHT, ONE) for pair in axis]) or sum([pair[0] for pair in axis]) != 1:
-        return None
-    return list(axis).index(ONE)
+    filled = [button for button, pair in enumerate(axis) if pair != NOUGHT]
+    return filled[0] if len(filled) == 1 and axis[filled[0]] == ONE else None
 
 
 def road_of(table, axis):
