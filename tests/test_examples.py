@@ -56,7 +56,54 @@ CROSSINGS = """
 [None, (0, 1)]
 """
 
-BLOCKS = (GOLDENS, CHANGES, COUNTS, WALLS, CROSSINGS)
+MACHINES = """
+>>> from wallwalks.machines import change_at, far_alike, far_lots, first_reader, least_reader, number_of, walls_small
+>>> reader = least_reader(pair)
+>>> [reader.states, reader.leads, reader.how_many(3), reader.reads((0, 1, 1)), len(walls_small(ring)), len(least_reader(ring))]
+[((), (0,), (1,)), ((1, 2), (None, 2), (1, None)), 2, False, 6, 16]
+>>> [number_of(Change(pair, (1, 0))), change_at(pair, 5).word, far_lots(long_one), far_alike(apart, (0, 1, 0), (0, 0, 1)), first_reader(apart).reads((1, 0))]
+[4, (0, 1, 0), ((0, 1, 0), (1, 0, 1)), True, False]
+"""
+
+ROOMS = """
+>>> from wallwalks.rooms import gate, hull, own_room, shortest, split_behind, split_double
+>>> one_way, longest = Change(two, (0, 1)), Change(two, (0, 1, 0))
+>>> [split_behind(one_way, (1,))[0].word, gate(Change(two, ()), one_way, (0,)).word, hull((one_way, Change(two, (0,))))[0].word, hull((one_way, Change(two, (0,))))[1], own_room(Change(ring, (2, 0, 2)))]
+[(0,), (0,), (0,), (1,), (0, 2)]
+>>> parts = split_double(longest, (0,), (0,))
+>>> [parts[0].word, parts[1].word, parts[2].word, len(shortest(two, (0,), 2)), shortest(two, (0,), 2)[0].word]
+[(0,), (1,), (0,), 1, (0, 1)]
+"""
+
+CARRYING = """
+>>> from wallwalks.carrying import carrying, is_carried, kin, room_moves
+>>> [kin(two, (0,)), kin(square, (0,)), room_moves(two, (0,))[0][1], room_moves(two, (0,))[0][2].word, room_moves(square, (0,))[0][1], room_moves(square, (0,))[0][2].word, room_moves(pair, (0,))]
+[((0,), (1,)), ((0,),), (1,), (0, 1), (0,), (1, 0, 1), ()]
+>>> [is_carried(one_way, (0,), (1,)), carrying(square, (0,), (1,))]
+[True, None]
+"""
+
+FRONTS = """
+>>> from wallwalks.fronts import beginnings, common_end, common_front, facing_pair, least_continuation
+>>> [common_front(Change(ring, (0, 1)), Change(ring, (0, 2))).word, least_continuation(Change(ring, (0, 1)), Change(ring, (0, 2)), 9).word, least_continuation(Change(ring, (0, 1)), Change(ring, (0, 2)), 3), facing_pair(Change(ring, (2,)), Change(ring, (0, 1)))[1].road]
+[(0,), (0, 1, 2, 1), None, ((0,), 1)]
+>>> [common_end(Change(two, (0,)), Change(two, (1,))).word, len(beginnings(longest)), least_continuation(Change(pair, (0,)), Change(pair, (1,)), 60), facing_pair(Change(pair, (0,)), Change(pair, (1,)))[0].road]
+[(0, 1, 0), 6, None, ((), 0)]
+"""
+
+SUBWORDS = """
+>>> from wallwalks.subwords import all_under, between, covered, is_under, shortening, sticky
+>>> pairs = shortening(Change(two, (1,)), one_way)
+>>> [len(pairs), pairs[1][0].word, pairs[1][1].word, is_under(Change(two, (1, 0)), one_way), sticky(two, (0, 0, 1)).word, len(all_under(longest))]
+[3, (), (0,), False, (0, 1), 6]
+>>> lot = between(Change(two, (0,)), longest)
+>>> [len(lot), lot[1].word, lot[2].word, covered(one_way)[0].word, covered(one_way)[1].word]
+[4, (0, 1), (1, 0), (0,), (1,)]
+"""
+
+BLOCKS = (
+    GOLDENS, CHANGES, COUNTS, WALLS, CROSSINGS, MACHINES, ROOMS, CARRYING, FRONTS, SUBWORDS,
+)
 
 
 def told_of(error):

@@ -160,6 +160,13 @@ def tables_check(thing, other):
         raise OtherTable()
 
 
+def both_changes_check(change, other):
+    """Refuse what are not two changes of one table."""
+    change_check(change)
+    change_check(other)
+    tables_check(change, other)
+
+
 def vector_check(table, vector):
     """Refuse what is no vector of the table."""
     if not isinstance(vector, tuple) or len(vector) != table.size:
@@ -192,14 +199,18 @@ def level(table, vector, button):
 
 def parting(change, other):
     """The lowest button whose axis two changes turn unlike; None if they are the same."""
-    change_check(change)
-    change_check(other)
-    tables_check(change, other)
+    both_changes_check(change, other)
     bonds = change.table.bonds
     for button, (left, right) in enumerate(zip(images_of(bonds, change.word), images_of(bonds, other.word))):
         if left != right:
             return button
     return None
+
+
+def in_order(changes):
+    """Unlike changes of one table as a tuple in order: by their lengths, then by their first words."""
+    by_word = {change.word: change for change in changes}
+    return tuple([by_word[word] for _, word in sorted([(len(word), word) for word in by_word])])
 
 
 def rests_of(change):

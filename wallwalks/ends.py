@@ -64,6 +64,12 @@ def is_finite(table):
     return all([name in DEGREES for name in piece_names(table)])
 
 
+def finite_check(table):
+    """Refuse a table that is not finite."""
+    if not is_finite(table):
+        raise NotFinite()
+
+
 def is_finite_room(table, room):
     """Whether all pieces of the table of the room are finite."""
     table_check(table)
@@ -141,8 +147,7 @@ def top_of(table, room):
 
 def top(table):
     """The longest change of a finite table."""
-    if not is_finite(table):
-        raise NotFinite()
+    finite_check(table)
     return top_of(table, tuple(range(table.size)))
 
 
@@ -160,8 +165,7 @@ def degrees_of(table):
 
 def degrees(table):
     """The degrees of a finite table, ascending."""
-    if not is_finite(table):
-        raise NotFinite()
+    finite_check(table)
     return degrees_of(table)
 
 

@@ -1,8 +1,8 @@
 """Walls: up axes with their columns, how two of them stand, and lists of them."""
 
 from wallwalks.changes import change_check, change_of, tables_check
-from wallwalks.ends import is_finite
-from wallwalks.errors import NotAWall, NotFinite, TooMany
+from wallwalks.ends import finite_check
+from wallwalks.errors import NotAWall, TooMany
 from wallwalks.goldens import Golden, golden_vector
 from wallwalks.limits import MOST_DEPTH, MOST_LOT
 from wallwalks.refusals import button_check, number_check, word_check
@@ -253,8 +253,7 @@ def walls_at(table, depth):
 
 def walls_all(table):
     """All walls of a finite table, by their depths, then by their roads."""
-    if not is_finite(table):
-        raise NotFinite()
+    finite_check(table)
     roads = button_roads(table)
     found = ()
     while roads:
