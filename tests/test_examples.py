@@ -101,8 +101,54 @@ SUBWORDS = """
 [4, (0, 1), (1, 0), (0,), (1,)]
 """
 
+LAURENTS = """
+>>> from wallwalks.laurents import Laurent, letter
+>>> x = Laurent(-1, (1, 0, -2))
+>>> [x.text, x.barred.text, x.total, (x + 2).text, (Laurent(0, (1, 1)) ** 2).coefficients, Laurent(0, (0, 3, 0)).lowest, (letter(2) * letter(-3)).text, Laurent(0, ()).text]
+['1q-1 -2q1', '-2q-1 1q1', -1, '1q-1 2q0 -2q1', (1, 2, 1), 1, '1q-1', '0']
+"""
+
+SUMS = """
+>>> from wallwalks.changes import Change, plain
+>>> from wallwalks.sums import single, single_inverse
+>>> from wallwalks.tables import chain, named
+>>> t = named("A2")
+>>> s = single(Change(t, (0,)))
+>>> twice = (s * s).terms
+>>> undone = single_inverse(Change(t, (0,)))
+>>> [len(twice), twice[0][0].word, twice[0][1].text, twice[1][0].word, twice[1][1].text, undone.terms[0][1].text, undone.terms[1][1].text, s * undone == single(plain(t)), (s * 2).at(Change(t, (0,))).text]
+[2, (), '1q1', (0,), '-1q0 1q1', '1q-1 -1q0', '1q-1', True, '2q0']
+>>> single(plain(named("~A2")))
+raises NotFinite()
+"""
+
+PAIRS = """
+>>> from wallwalks.pairs import balanced, gap, link, weave
+>>> u = named("A3")
+>>> w = Change(u, (1, 0, 2, 1))
+>>> [gap(plain(t), Change(t, (0, 1))).text, gap(plain(t), Change(t, (0, 1, 0))).text, weave(Change(u, (1,)), w).text, link(Change(u, (1,)), w), weave(Change(u, (0,)), w).text, weave(w, plain(u)).text]
+['1q0 -2q1 1q2', '-1q0 2q1 -2q2 1q3', '1q0 1q1', 1, '1q0', '0']
+>>> made = balanced(Change(t, (0, 1))).terms
+>>> [len(made), made[0][1].text, made[2][0].word, made[3][0].word, made[3][1].text]
+[4, '1q0', (1,), (0, 1), '1q0']
+"""
+
+POSITIVES = """
+>>> from wallwalks.positives import Positive, grains, shared_continuation, shared_front, without_front
+>>> x, y = Positive(t, (0, 1, 0, 1)), Positive(t, (1, 0))
+>>> [x.word, x == Positive(t, (1, 0, 1, 1)), x.backs, grains(x)[0].word, grains(x)[1].word, without_front(x, y).word, shared_front(y, Positive(t, (0, 1))).word, shared_continuation(y, Positive(t, (0,)), 3).word, shared_continuation(y, Positive(t, (0,)), 2)]
+[(0, 0, 1, 0), True, (0, 1), (0, 1, 0), (1,), (1, 1), (), (0, 1, 0), None]
+"""
+
+QUOTIENTS = """
+>>> from wallwalks.quotients import quotient_of, shadow, top_form
+>>> a = quotient_of(t, (1, -2))
+>>> [a.dividend.word, a.divisor.word, (a * a.inverse()).signed, (a * quotient_of(t, (2, 1))).signed, top_form(quotient_of(t, (-1,)))[0], top_form(quotient_of(t, (-1,)))[1][0].word, quotient_of(t, (1, 2, 1)) == quotient_of(t, (2, 1, 2)), shadow(a).word, quotient_of(t, (-1, 2)).signed]
+[(0,), (1,), (), (1, 1), -1, (0, 1), True, (0, 1), (2, 1, -2, -1)]
+"""
+
 BLOCKS = (
-    GOLDENS, CHANGES, COUNTS, WALLS, CROSSINGS, MACHINES, ROOMS, CARRYING, FRONTS, SUBWORDS,
+    GOLDENS, CHANGES, COUNTS, WALLS, CROSSINGS, MACHINES, ROOMS, CARRYING, FRONTS, SUBWORDS, LAURENTS, SUMS, PAIRS, POSITIVES, QUOTIENTS,
 )
 
 

@@ -59,6 +59,15 @@ FUNCTIONS = {
         "is_under(change, other)", "places(change, other)", "shortening(change, other)", "sticky(table, word)",
         "sticky_product(change, other)", "all_under(change)", "between(change, other)", "covered(change)",
     ),
+    "laurents": ("letter(power)",),
+    "sums": ("single(change)", "single_inverse(change)"),
+    "pairs": ("gap(change, other)", "weave(change, other)", "link(change, other)", "balanced(change)"),
+    "positives": (
+        "without_front(positive, other)", "without_back(positive, other)", "shared_front(positive, other)",
+        "shared_back(positive, other)", "shared_continuation(positive, other, most)", "lifted(change)",
+        "led_down(positive)", "is_simple(positive)", "grains(positive)", "swaps(table, word, other_word)",
+    ),
+    "quotients": ("quotient_of(table, signed)", "top_form(quotient)", "shadow(quotient)"),
 }
 
 # For each class its making, properties, methods, static methods and signs. Of making a Reader nothing is said.
@@ -82,6 +91,22 @@ CLASSES = {
     ("machines", "Reader"): (
         None, ("table", "walls", "states", "leads"), ("reads(word)", "state(word)", "how_many(length)"), (),
         ("__len__", "__eq__"),
+    ),
+    ("laurents", "Laurent"): (
+        "(lowest, coefficients)", ("lowest", "highest", "coefficients", "barred", "total", "text"),
+        ("coefficient(power)", "power(exponent)"), ("read(text)",),
+        ("__add__", "__radd__", "__sub__", "__rsub__", "__mul__", "__rmul__", "__neg__", "__pow__", "__eq__", "__bool__"),
+    ),
+    ("sums", "Blend"): (
+        "(table, terms)", ("table", "terms", "barred", "backward"), ("at(change)",), (),
+        ("__add__", "__sub__", "__mul__", "__rmul__", "__neg__", "__eq__", "__bool__"),
+    ),
+    ("positives", "Positive"): (
+        "(table, word)", ("table", "word", "length", "fronts", "backs", "text"), (), (), ("__mul__", "__eq__", "__bool__"),
+    ),
+    ("quotients", "Quotient"): (
+        "(dividend, divisor)", ("table", "dividend", "divisor", "signed"), ("inverse()", "power(exponent)"), (),
+        ("__mul__", "__pow__", "__eq__", "__bool__"),
     ),
 }
 

@@ -129,6 +129,16 @@ class UnderTest(CallCase):
         self.refuses(TooMany(1000), between, change=more * Change(PAIR, (1,)), other=more)
         self.refuses(TooMany(1000), all_under, change=top(named("A6")))
         self.assertEqual(len(covered(more)), 2)
+        for text, word, many in (
+            ("table: 1 5 3 3 5; 5 1 5 3 2; 3 5 1 2 5; 3 3 2 1 4; 5 2 5 4 1", (2, 0, 3, 0, 2, 4, 3, 0, 2, 1, 2, 3), 1000),
+            ("table: 1 4 3 3 2; 4 1 2 5 5; 3 2 1 5 2; 3 5 5 1 3; 2 5 2 3 1", (3, 1, 2, 4, 1, 3, 1, 3, 0, 1, 2, 3), 1002),
+        ):
+            change = Change(Table.read(text), word)
+            self.assertEqual(len(under_by_words(change.table, change.word)), many)
+            if many == 1000:
+                self.assertEqual(len(all_under(change)), 1000)
+            else:
+                self.refuses(TooMany(1000), all_under, change=change)
         self.assertEqual(len(all_under(top(named("A5")))), 720)
         self.assertEqual(len(all_under(top(named("H3")))), how_many(named("H3")))
 

@@ -3,6 +3,7 @@
 from wallwalks.errors import InvalidText, InvalidVector, NotAChange, OtherTable, TooMany
 from wallwalks.goldens import Golden, golden, golden_vector, is_number
 from wallwalks.limits import MOST_LOT, MOST_POWER, MOST_WORD
+from wallwalks.powers import power_of
 from wallwalks.refusals import button_check, number_check, word_check
 from wallwalks.tables import table_check
 from wallwalks.turning import downs, first_word_of, images_of, level_at, marks_ahead, marks_by, plain_marks, turned_by
@@ -110,15 +111,7 @@ class Change:
         """The product of as many of this change, or of its inverse, as the exponent tells."""
         number_check(exponent, -MOST_POWER, MOST_POWER)
         base = self if exponent > 0 else self.inverse()
-        made = change_with(self._table, plain_marks(self._table.size))
-        left = abs(exponent)
-        while left > 0:
-            if left & 1:
-                made = made * base
-            left = left >> 1
-            if left > 0:
-                base = base * base
-        return made
+        return power_of(Change(self._table, ()), base, abs(exponent))
 
     def inverse(self):
         """The change that undoes this one."""

@@ -1,8 +1,9 @@
 """Which tables and rooms are finite, flat or wild, and the longest changes of the finite ones."""
 
 from wallwalks.changes import change_with
-from wallwalks.errors import AllFinite, NotFinite
+from wallwalks.errors import AllFinite, NotFinite, TooMany
 from wallwalks.goldens import golden_vector
+from wallwalks.limits import MOST_CHANGES
 from wallwalks.refusals import room_check
 from wallwalks.tables import name_of, part, table_check
 from wallwalks.turning import ONE, level_at, marks_ahead, pair_sign, plain_marks, turned
@@ -177,6 +178,14 @@ def how_many(table):
     for degree in degrees_of(table):
         many = many * degree
     return many
+
+
+def listed_check(table):
+    """Refuse a table that is not finite, or has more than 400 changes."""
+    finite_check(table)
+    many = how_many(table)
+    if many > MOST_CHANGES:
+        raise TooMany(many)
 
 
 def climbing(table):

@@ -8,15 +8,9 @@ from wallwalks.ends import finite_check, top_of
 from wallwalks.limits import MOST_WORD
 from wallwalks.refusals import number_check
 from wallwalks.turning import (
-    downs, first_word_of, level_at, marks_ahead, marks_by, pair_product, pair_sign, plain_marks,
+    downs, first_word_of, is_front, level_at, marks_ahead, marks_by, pair_product, pair_sign, plain_marks,
 )
 from wallwalks.walls import meeting_of
-
-
-def is_front(marks, button):
-    """Whether a button is a front button of the change with these marks."""
-    whole, gold = marks[button]
-    return pair_sign(whole, gold) < 0
 
 
 def begins(change, other):

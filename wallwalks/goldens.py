@@ -2,6 +2,7 @@
 
 from wallwalks.errors import InvalidNumber, InvalidText
 from wallwalks.limits import MOST_POWER
+from wallwalks.powers import power_of
 from wallwalks.refusals import is_whole, is_whole_text, number_check
 from wallwalks.turning import pair_product, pair_sign
 
@@ -111,14 +112,7 @@ class Golden:
     def power(self, exponent):
         """The product of as many of this number as the exponent tells."""
         number_check(exponent, 0, MOST_POWER)
-        made = Golden(1)
-        base = self
-        while exponent > 0:
-            if exponent & 1:
-                made = made * base
-            base = base * base
-            exponent = exponent >> 1
-        return made
+        return power_of(Golden(1), self, exponent)
 
     def is_below(self, other):
         """Whether the number is less than a golden or whole number."""

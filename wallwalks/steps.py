@@ -108,9 +108,10 @@ def spare(table, word):
 
 
 def bring(table, buttons, at, button, places):
-    """Swap in a list of buttons, a least word, until the button stands at a place.
+    """Swap in a list of buttons until the button stands at a place.
 
-    It must be a front button of what the buttons from there on make. The
+    It must be a front button of the positive that the buttons from there on
+    make: for least words that of a change, as swaps lead to each other one. The
     places of the swaps are put behind the others. With the button that stands
     there, what follows begins with both by turns, as many as their tie tells.
     """
@@ -125,7 +126,7 @@ def bring(table, buttons, at, button, places):
 
 
 def swap_places(table, word, other_word):
-    """The places of swaps that lead a least word to another least word of its change."""
+    """The places of swaps that lead a word to another word of its positive, as two least words of a change are."""
     buttons = list(word)
     places = []
     for at, button in enumerate(other_word):

@@ -4,11 +4,10 @@ from wallwalks.changes import (
     both_changes_check, change_check, change_of, change_with, in_order, marks_backward,
 )
 from wallwalks.errors import TooMany
-from wallwalks.fronts import is_front
 from wallwalks.limits import MOST_LOT
 from wallwalks.refusals import word_check
 from wallwalks.tables import table_check
-from wallwalks.turning import marks_ahead, plain_marks
+from wallwalks.turning import is_front, marks_ahead, plain_marks
 
 
 def places_taken(change, other):

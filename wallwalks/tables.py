@@ -191,11 +191,12 @@ def table_check(value):
 
 def linked(size, links):
     """The table in which the two buttons of each link (button, button, tie) have this tie; others are apart."""
-    rows = [[1 if s == t else APART for t in range(size)] for s in range(size)]
+    ties = {}
     for button, other_button, tie in links:
-        rows[button][other_button] = tie
-        rows[other_button][button] = tie
-    return Table(tuple([tuple(row) for row in rows]))
+        ties[(button, other_button)] = tie
+        ties[(other_button, button)] = tie
+    buttons = range(size)
+    return Table(tuple([tuple([1 if s == t else ties.get((s, t), APART) for t in buttons]) for s in buttons]))
 
 
 def chain_links(ties):

@@ -135,6 +135,12 @@ def marks_by(bonds, marks, word):
     return marks
 
 
+def is_front(marks, button):
+    """Whether a button is a front button of the change with these marks."""
+    whole, gold = marks[button]
+    return pair_sign(whole, gold) < 0
+
+
 def downs(marks):
     """The buttons with marks below 0: the front buttons, ascending."""
     return tuple([s for s, (whole, gold) in enumerate(marks) if pair_sign(whole, gold) < 0])
