@@ -185,6 +185,14 @@ class ContinuationTest(CallCase):
         for table in FINITE:
             self.assertIsNone(facing_pair(top(table), top(table)))
 
+    def test_facing_pairs_of_unlike_pairings(self):
+        """Where ties 4 and 6 make the two pairings unlike, and with golden ones."""
+        for table in (chain((4, 4)), chain((6, 3)), chain((4, 6)), chain((5, 5)), chain((0, 4)), chain((0,)), chain((5, 6))):
+            every = changes_of(table, 4)
+            for change, other in itertools.product(every, every[::2]):
+                expected = next(((x, y) for x in crossed(change) for y in crossed(other) if standing(x, y) == "facing"), None)
+                self.assertEqual(facing_pair(change, other), expected)
+
     def test_no_change_crosses_walls_face_to_face(self):
         for table in (RING, PAIR, chain((0, 3)), named("~C2"), chain((5, 5))):
             for change in changes_of(table, 7)[::5]:

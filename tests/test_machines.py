@@ -246,7 +246,6 @@ class ReaderTest(CallCase):
         for value in odd_values() + [RING, first_reader(RING).leads]:
             self.assertIs(least_reader(RING) == value, False)
             self.assertIs(least_reader(RING) != value, True)
-        # Of the same leads, but of unlike tables: mirrored names of the three buttons of two pieces.
         self.assertIs(first_reader(chain((0, 2))) == first_reader(chain((2, 0))), False)
         self.assertIs(type(least_reader(RING)) is Reader, True)
 
