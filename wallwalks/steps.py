@@ -152,7 +152,7 @@ def lessening(table, word):
     return steps, word
 
 
-def backward(table, word, steps):
+def steps_back(table, word, steps):
     """The steps that lead back from where drops and swaps lead the word."""
     back = []
     for step in steps:
@@ -176,4 +176,4 @@ def way(table, word, other_word):
     steps, least = lessening(table, word)
     other_steps, other_least = lessening(table, other_word)
     across = [("swap", place) for place in swap_places(table, least, other_least)]
-    return tuple(steps + across + backward(table, other_word, other_steps))
+    return tuple(steps + across + steps_back(table, other_word, other_steps))
