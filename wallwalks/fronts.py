@@ -80,8 +80,9 @@ def laid(table, word, other_word, most):
     """How two least words go on to their least continuation: the pair of what is behind each of them.
 
     None if there is no continuation with at most so many buttons. Button by
-    button the other word is looked for in what is laid behind it, and what is
-    missing is laid at the end; a button laid in vain would make it shorter.
+    button the other word is taken away in front of what is laid; what is
+    missing for that is laid at the end, as each continuation must go on so. If
+    it would make what is laid shorter, there is no continuation.
     """
     bonds = table.bonds
     rest = marks_by(bonds, plain_marks(table.size), word)
