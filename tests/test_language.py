@@ -301,7 +301,8 @@ class QuietCode:
         if isinstance(value, (ast.List, ast.Dict, ast.ListComp, ast.DictComp)):
             return True
         if isinstance(value, ast.BinOp):
-            return self.is_created(value.left) or isinstance(value.op, ast.Add) and self.is_created(value.right)
+            # Classes have signs of their own: a sum is a new list only if both sides are, and a product is not taken for one.
+            return isinstance(value.op, ast.Add) and self.is_created(value.left) and self.is_created(value.right)
         if isinstance(value, ast.Subscript):
             return isinstance(value.slice, ast.Slice)
         return (isinstance(value, ast.Call) and isinstance(value.func, ast.Name)

@@ -24,7 +24,7 @@ def poly_opposite(poly):
 
 def poly_product(left, right):
     """The product of two polynomials."""
-    made = [0] * max(len(left) + len(right) - 1, 0)
+    made = [0 for _ in range(len(left) + len(right) - 1)]
     for i, a in enumerate(left):
         for j, b in enumerate(right):
             made[i + j] = made[i + j] + a * b
@@ -35,7 +35,7 @@ def poly_divided(poly, divisor):
     """The quotient and the rest by a divisor whose last coefficient is 1."""
     rest = list(poly)
     low = len(divisor) - 1
-    quotient = [0] * max(len(poly) - low, 0)
+    quotient = [0 for _ in range(len(poly) - low)]
     for at in range(len(poly) - 1, low - 1, -1):
         factor = rest[at]
         quotient[at - low] = factor
