@@ -168,6 +168,34 @@ def pairs(goldens):
     return tuple((x.whole, x.gold) for x in goldens)
 
 
+def g_inverse(x):
+    """The ratio 1 / x, with fractions: (a + b * g) times (a + b - b * g) is a whole number."""
+    a, b = x
+    norm = Fraction(a * a + a * b - b * b)
+    return ((a + b) / norm, -b / norm)
+
+
+def rank(rows):
+    """How many of some vectors of golden numbers are free, at most."""
+    rows = [tuple(row) for row in rows]
+    found = 0
+    while rows:
+        row = rows.pop()
+        at = next((k for k, x in enumerate(row) if x != (0, 0)), None)
+        if at is None:
+            continue
+        found += 1
+        scale = g_inverse(row[at])
+        rows = [tuple(g_add(x, g_neg(g_mul(g_mul(other[at], scale), y))) for x, y in zip(other, row)) for other in rows]
+    return found
+
+
+def shift(ties, word):
+    """How many free vectors w(x) - x there are: as many as buttons less the free kept vectors."""
+    return rank([tuple(g_add(x, g_neg(y)) for x, y in zip(image, axis(len(ties), s)))
+                 for s, image in enumerate(images(ties, word))])
+
+
 # Words by steps alone.
 
 def swapped_words(ties, word):

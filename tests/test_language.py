@@ -91,12 +91,27 @@ class LanguageTest(unittest.TestCase):
             if isinstance(node, ast.FunctionDef):
                 self.assertLessEqual(node.end_lineno - node.lineno + 1, 40, node.name)
 
+    def only_called(self, tree, names):
+        """What is taken from Python's library stands in calls alone, with all arguments by position."""
+        self.assertLessEqual(set(names), {"gcd", "lcm", "isqrt", "comb", "perm", "factorial"})
+        calls = [node for node in ast.walk(tree) if isinstance(node, ast.Call)]
+        called = [node.func for node in calls]
+        for node in ast.walk(tree):
+            if isinstance(node, ast.Name) and node.id in names:
+                self.assertIn(node, called)
+        for node in calls:
+            if isinstance(node.func, ast.Name) and node.func.id in names:
+                self.assertFalse(node.keywords)
+
     def test_imports(self):
         before = {}
         for path, _, tree in trees():
             for node in ast.walk(tree):
                 self.assertNotIsInstance(node, ast.Import)
-                if isinstance(node, ast.ImportFrom):
+                if isinstance(node, ast.ImportFrom) and node.module == "math":
+                    self.assertIn(node, tree.body)
+                    self.only_called(tree, [alias.name for alias in node.names])
+                elif isinstance(node, ast.ImportFrom):
                     self.assertIn(node, tree.body)
                     self.assertRegex(node.module, r"^wallwalks\.[a-z]+$")
                     self.assertEqual(node.level, 0)
@@ -135,7 +150,7 @@ class LanguageTest(unittest.TestCase):
     def test_statements_and_expressions(self, text, tree):
         barred = (
             ast.Global, ast.AsyncFunctionDef, ast.Await, ast.AnnAssign, ast.Div, ast.NamedExpr, ast.Starred, ast.Yield,
-            ast.YieldFrom, ast.Set, ast.GeneratorExp, ast.Try, ast.With, ast.Match, ast.Lambda, ast.Delete, ast.SetComp,
+            ast.YieldFrom, ast.Set, ast.GeneratorExp, ast.Try, ast.Match, ast.Lambda, ast.Delete, ast.SetComp,
         )
         for node in ast.walk(tree):
             self.assertNotIsInstance(node, barred, getattr(node, "lineno", 0))
@@ -150,6 +165,8 @@ class LanguageTest(unittest.TestCase):
             if isinstance(node, ast.AugAssign):
                 self.assertIsInstance(node.target, ast.Name)
                 self.assertIsInstance(node.value, ast.Constant)
+            if isinstance(node, ast.With):
+                self.assertEqual([ast.unparse(item) for item in node.items], ["self.trial()"])
             if isinstance(node, ast.Raise):
                 self.assertIsInstance(node.exc, ast.Call)
                 self.assertFalse(node.exc.keywords)
@@ -241,6 +258,43 @@ class LanguageTest(unittest.TestCase):
             if isinstance(node, ast.Constant) and isinstance(node.value, str):
                 self.assertNotIn("%", node.value)
 
+    def is_such(self, value):
+        """Whether an expression is a name, an attribute or a literal, as `__exit__` may assign them."""
+        while isinstance(value, ast.Attribute):
+            value = value.value
+        return isinstance(value, (ast.Name, ast.Constant))
+
+    @each_file
+    def test_exits(self, text, tree):
+        """The rows of `__exit__` only assign, and ask only whether there is an exception."""
+        for function in [node for node in ast.walk(tree) if isinstance(node, ast.FunctionDef) and node.name == "__exit__"]:
+            rows = list(function.body)
+            for row in rows:
+                self.assertIsInstance(row, (ast.Assign, ast.If, ast.Pass))
+                if isinstance(row, ast.If):
+                    self.assertIn(ast.unparse(row.test), ("kind is None", "kind is not None"))
+                    rows += row.body + row.orelse
+                elif isinstance(row, ast.Assign):
+                    self.assertEqual([type(target) for target in row.targets if self.is_such(target)], [type(row.targets[0])])
+                    self.assertTrue(self.is_such(row.value))
+            read = {node.id for node in ast.walk(function) if isinstance(node, ast.Name)}
+            self.assertFalse(read & {argument.arg for argument in function.args.args[2:]})
+
+    def test_properties_are_not_assigned(self):
+        properties, assigned, methods = set(), {}, set()
+        for path, _, tree in trees():
+            for node in ast.walk(tree):
+                if isinstance(node, ast.ClassDef):
+                    own = [part for part in node.body if isinstance(part, ast.FunctionDef)]
+                    told = {part.name for part in own if "property" in map(ast.unparse, part.decorator_list)}
+                    properties |= told
+                    methods |= {part.name for part in own} - told
+                if isinstance(node, ast.Attribute) and isinstance(node.ctx, ast.Store):
+                    assigned[node.attr] = (path.name, node.lineno)
+        for name in properties:
+            self.assertNotIn(name, assigned)
+            self.assertNotIn(name, methods)
+
     def test_attributes_that_are_read_are_assigned(self):
         assigned, read = set(), {}
         for path, _, tree in trees():
@@ -260,6 +314,9 @@ class LanguageTest(unittest.TestCase):
 CHANGING = {"append", "clear", "extend", "insert", "pop", "remove", "reverse", "setdefault", "sort", "update", "add", "discard"}
 MAKERS = {"list", "dict", "set", "sorted"}
 
+# The double-underscore methods that may change what their objects hold.
+RUN_ALOUD = ("__init__", "__enter__", "__exit__")
+
 
 class QuietCode:
     """All that properties and operators of the package run, themselves too, found by names alone."""
@@ -276,7 +333,7 @@ class QuietCode:
                     for node in own:
                         self.methods.setdefault(node.name, []).append((path.name, node))
                         told = [ast.unparse(decorator) for decorator in node.decorator_list]
-                        if "property" in told or node.name.startswith("__") and node.name not in ("__init__", "__exit__"):
+                        if "property" in told or node.name.startswith("__") and node.name not in RUN_ALOUD:
                             start.append((path.name, node))
             for node in ast.walk(tree):
                 if isinstance(node, ast.Attribute) and isinstance(node.ctx, ast.Store):
