@@ -34,6 +34,28 @@ def button_check(table, value):
         raise InvalidButton(value)
 
 
+def is_word(size, value, most):
+    """Whether a value is a tuple of at most so many buttons of a table with so many buttons."""
+    if not isinstance(value, tuple) or len(value) > most:
+        return False
+    return all([is_whole_within(button, 0, size - 1) for button in value])
+
+
+def room_fault(size, room):
+    """The index of the first element that is no button or not above the one ahead of it; None if there is none."""
+    least = 0
+    for at, button in enumerate(room):
+        if not is_whole_within(button, least, size - 1):
+            return at
+        least = button + 1
+    return None
+
+
+def is_room(size, value):
+    """Whether a value is an ascending tuple of buttons of a table with so many."""
+    return isinstance(value, tuple) and room_fault(size, value) is None
+
+
 def word_check(table, word):
     """Refuse what is no word of at most 60 buttons of the table."""
     if not isinstance(word, tuple):
@@ -49,8 +71,6 @@ def room_check(table, room):
     """Refuse what is no ascending tuple of buttons of the table."""
     if not isinstance(room, tuple):
         raise InvalidRoom(None)
-    least = 0
-    for at, button in enumerate(room):
-        if not is_whole_within(button, least, table.size - 1):
-            raise InvalidRoom(at)
-        least = button + 1
+    fault = room_fault(table.size, room)
+    if fault is not None:
+        raise InvalidRoom(fault)
