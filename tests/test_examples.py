@@ -147,8 +147,72 @@ QUOTIENTS = """
 [(0,), (1,), (), (1, 1), -1, (0, 1), True, (0, 1), (2, 1, -2, -1)]
 """
 
+TURNS = """
+>>> from wallwalks.turns import carrier, class_of, classes, kept, order_of, shift
+>>> [order_of(Change(t, (0, 1))), order_of(Change(named("~A2"), (0, 1, 2))), order_of(plain(t)), shift(Change(t, (0, 1, 0))), shift(Change(t, (0, 1))), kept(Change(t, (0, 1))), len(kept(Change(t, (0,))))]
+[3, 0, 1, 1, 2, (), 1]
+>>> [len(classes(t)), classes(t)[1].word, classes(t)[2].word, len(class_of(Change(t, (1,)))), class_of(Change(t, (1,)))[2].word, carrier(Change(t, (0,)), Change(t, (0, 1)))]
+[3, (0,), (0, 1), 3, (0, 1, 0), None]
+"""
+
+UNDOING = """
+>>> from wallwalks.undoing import flip_carrier, flips, is_opposite, opposite_rooms, settled
+>>> [opposite_rooms(u), is_opposite(named("~A1"), (0, 1)), len(settled(Change(t, (0, 1, 0)))[1]), len(flips(u)), flip_carrier(Change(named("~A1"), (0,)), Change(named("~A1"), (1,)))]
+[((), (0,), (1,), (2,), (0, 2)), False, 1, 10, None]
+"""
+
+CARDS = """
+>>> from wallwalks.cards import cards_table, change_for, is_deal_under, deal_counts, deal_for, deal_length
+>>> [deal_for(Change(t, (0, 1))), change_for((2, 0, 1)).word, deal_length((2, 1, 0)), deal_counts((1, 0)), is_deal_under((1, 0, 2), (1, 2, 0)), is_deal_under((0, 2, 1), (1, 0, 2)), cards_table(3) == t]
+[(1, 2, 0), (1, 0), 3, ((1, 1), (2, 1)), True, False, True]
+"""
+
+SIGNEDCARDS = """
+>>> from wallwalks.signedcards import is_signed_under, signed_change, signed_for, signed_length, signed_table, spread
+>>> [signed_for(Change(signed_table(2), (0, 1))), signed_change((-1, -2)).word, signed_length((2, -1)), spread((2, -1)), is_signed_under((-1, 2), (2, 1)), signed_table(3).text]
+[(2, -1), (0, 1, 0, 1), 2, (1, -2, 2, -1), False, 'table: 1 4 2; 4 1 3; 2 3 1']
+"""
+
+RINGCARDS = """
+>>> from wallwalks.ringcards import is_ring_under, deal_of_throws, ring_change, ring_for, ring_length, ring_table, throws
+>>> [ring_for(Change(ring_table(3), (2,))), ring_length((-1, 1, 3)), ring_change((-1, 1, 3)).word, throws((-1, 1, 3), 1), deal_of_throws((4, 4, 1)), is_ring_under((1, 0, 2), (-1, 1, 3))]
+[(-1, 1, 3), 1, (2,), (0, 1, 2), ((1, 2, 0), 3), False]
+>>> throws((-1, 1, 3), 0)
+raises TooFew(given=-1)
+"""
+
+SHELVES = """
+>>> from wallwalks.benches import Bench
+>>> from wallwalks.shelves import Shelf
+>>> from wallwalks.wishes import holds
+>>> a3 = chain((3, 3))
+>>> bench = Bench(a3)
+>>> bench.press((0, 1, 2))
+>>> bench.do(("front", 1))
+>>> [bench.now.word, bench.home, len(bench), bench.log[3], bench.undo(), bench.now.word, bench.go_home(), bench.now.word, len(bench)]
+[(0, 1, 0, 2), (0, 2, 1, 0), 4, ('front', 1), None, (0, 1, 2), None, (), 6]
+>>> shelf = Shelf(a3)
+>>> shelf.put_all((("a", Change(a3, (0, 1))), ("b", Change(a3, (1, 0)))))
+>>> shelf.wish(("inverse", "a", "b"))
+>>> shelf.wish(("order", "a", 3))
+>>> [shelf.names, shelf.deeds, "a" in shelf, shelf.named("a").word, holds(("under", "a", "b"), (("a", Change(a3, (0,))), ("b", Change(a3, (1, 0)))))]
+[('a', 'b'), 3, True, (0, 1), True]
+>>> shelf.put("b", Change(a3, (1,)))
+raises Broken(index=0)
+"""
+
+CERTIFICATES = """
+>>> from wallwalks.certificates import certify_rooms_carried, certify_continuation, certify_small, certify_under
+>>> from wallwalks.checker import accepts
+>>> [certify_small(pair), certify_rooms_carried(square, (0,), (1,))[0][0], certify_under(Change(two, (1, 0)), one_way), certify_continuation(Change(pair, (0,)), Change(pair, (1,)), 9)]
+[(('small walls', 'table: 1 0; 0 1', 2), (((), 0), ((), 1))), 'rooms not carried', (('not under', 'table: 1 3; 3 1', (1, 0), (0, 1)), ()), (('no continuation', 'table: 1 0; 0 1', (0,), (1,)), ((), 0, (), 1))]
+>>> [accepts(("rooms carried", "table: 1 3; 3 1", (0,), (1,)), (0, 1)), accepts(("rooms not carried", "table: 1 4; 4 1", (0,), (1,)), (((0,), (("move", (0, 1, 0, 1)),)),)), accepts(("meeting", "table: 1 4; 4 1", (), 0, (1,), 0, 2), ())]
+[True, True, True]
+"""
+
 BLOCKS = (
-    GOLDENS, CHANGES, COUNTS, WALLS, CROSSINGS, MACHINES, ROOMS, CARRYING, FRONTS, SUBWORDS, LAURENTS, SUMS, PAIRS, POSITIVES, QUOTIENTS,
+    GOLDENS, CHANGES, COUNTS, WALLS, CROSSINGS, MACHINES, ROOMS, CARRYING, FRONTS, SUBWORDS, LAURENTS, SUMS, PAIRS, POSITIVES,
+    QUOTIENTS, TURNS, UNDOING, CARDS, SIGNEDCARDS, RINGCARDS, SHELVES, CERTIFICATES,
 )
 
 

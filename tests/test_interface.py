@@ -68,6 +68,37 @@ FUNCTIONS = {
         "led_down(positive)", "is_simple(positive)", "grains(positive)", "swaps(table, word, other_word)",
     ),
     "quotients": ("quotient_of(table, signed)", "top_form(quotient)", "shadow(quotient)"),
+    "turns": (
+        "order_of(change)", "carried_by(change, other)", "kept(change)", "shift(change)", "mirrors(change)",
+        "class_of(change)", "classes(table)", "carrier(change, other)",
+    ),
+    "undoing": (
+        "is_flip(change)", "is_opposite(table, room)", "opposite_rooms(table)", "settled(change)",
+        "flip_carrier(change, other)", "flips(table)",
+    ),
+    "cards": (
+        "cards_table(cards)", "deal_for(change)", "change_for(deal)", "deal_length(deal)", "deal_counts(deal)",
+        "is_deal_under(deal, other_deal)",
+    ),
+    "signedcards": (
+        "signed_table(cards)", "signed_for(change)", "signed_change(deal)", "signed_length(deal)", "spread(deal)",
+        "is_signed_under(deal, other_deal)",
+    ),
+    "ringcards": (
+        "ring_table(cards)", "ring_for(change)", "ring_length(deal)", "ring_change(deal)",
+        "is_ring_under(deal, other_deal)", "throws(deal, balls)", "deal_of_throws(heights)",
+    ),
+    "wishes": ("is_wish(table, value)", "names_in(table, wish)", "holds(wish, pairs)"),
+    "checker": ("accepts(claim, certificate)",),
+    "certificates": (
+        "certify_same(table, word, other_word)", "certify_least(table, word)", "certify_length(table, word)",
+        "certify_finite(table)", "certify_kind(table, piece)", "certify_crossing(change, wall)",
+        "certify_meeting(wall, other)", "certify_small(table)", "certify_rooms_carried(table, room, other_room)",
+        "certify_top(table, room)", "certify_front(change, other)", "certify_continuation(change, other, most)",
+        "certify_under(change, other)", "certify_words(table, word, other_word)", "certify_quotients(quotient, other)",
+        "certify_order(change)", "certify_mirrors(change)", "certify_carried(change, other)", "certify_settled(change)",
+        "certify_balanced(change)",
+    ),
 }
 
 # For each class its making, properties, methods, static methods and signs. Of making a Reader nothing is said.
@@ -108,6 +139,16 @@ CLASSES = {
         "(dividend, divisor)", ("table", "dividend", "divisor", "signed"), ("inverse()", "power(exponent)"), (),
         ("__mul__", "__pow__", "__eq__", "__bool__"),
     ),
+    ("benches", "Bench"): (
+        "(table)", ("table", "now", "home", "log"),
+        ("do(deed)", "press(word)", "undo()", "go_home()", "trial()", "tried(action)"), (), ("__len__", "__bool__"),
+    ),
+    ("shelves", "Shelf"): (
+        "(table)", ("table", "names", "wishes", "deeds"),
+        ("put(name, change)", "put_all(pairs)", "named(name)", "drop(name)", "wish(wish)", "free(index)", "undo()", "trial()",
+         "tried(action)"), (), ("__len__", "__bool__", "__contains__"),
+    ),
+    ("consoles", "Console"): ("(bench)", ("bench",), ("say(line)",), (), ()),
 }
 
 

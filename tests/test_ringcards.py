@@ -116,6 +116,22 @@ class RingTest(CallCase):
                 self.assertIs(is_under_by_counts(ring_for(change), ring_for(other)), expected)
         self.assertTrue(40 < sum(found) < 170)
 
+    def test_what_is_under_for_all_short_changes(self):
+        for cards, most in ((2, 9), (3, 5), (4, 3), (5, 2)):
+            table = ring_table(cards)
+            every = [Change(table, word) for layer in oracle.changes_by_length(table.ties, most) for word in layer]
+            deals = [ring_for(change) for change in every]
+            for (change, deal), (other, other_deal) in itertools.product(list(zip(every, deals)), repeat=2):
+                self.assertIs(is_ring_under(deal, other_deal), is_under(change, other))
+
+    def test_what_only_exact_counts_tell(self):
+        """Pairs that are told wrongly when the counts are weighed, or when bounds at the ends are left out."""
+        for cards, word, other in ((4, (1, 1, 1, 3, 0, 0, 1), (1, 2, 3, 0, 0, 3, 2, 1, 1, 3, 3)), (6, (3, 4), (2, 0)),
+                                   (4, (1, 1, 3, 0, 2, 3), (1, 0, 3, 2, 0, 0, 3, 0, 1, 0))):
+            table = ring_table(cards)
+            self.assertIs(is_under(Change(table, word), Change(table, other)), False)
+            self.assertIs(is_ring_under(dealt(cards, word), dealt(cards, other)), False)
+
     def test_what_is_under_far_out(self):
         rng = chance(244)
         for cards in (2, 3, 6):

@@ -10,10 +10,10 @@ from wallwalks.trials import Trial
 from wallwalks.wishes import holds_among, is_name, known_names_check, pairs_check, wish_check, wish_names
 
 
-def first_broken(wishes, changes, touched):
-    """The index of the first wish with a touched name that does not hold for the changes; None if all hold."""
+def first_broken(wishes, changes):
+    """The index of the first wish that does not hold for the changes under their names; None if all hold."""
     for index, wish in enumerate(wishes):
-        if any([name in touched for name in wish_names(wish)]) and not holds_among(wish, changes):
+        if not holds_among(wish, changes):
             return index
     return None
 
@@ -80,7 +80,7 @@ class Shelf:
         changes = self._changes()
         for name, change in pairs:
             changes[name] = change
-        broken = first_broken(self.wishes, changes, [name for name, _ in pairs])
+        broken = first_broken(self.wishes, changes)
         if broken is not None:
             raise Broken(broken)
         self._go_on(tuple([(name, changes[name]) for name in sorted(list(changes))]), self.wishes)

@@ -1,7 +1,7 @@
 """How changes come round: their orders, what they keep, the mirrors that make them, and their classes."""
 
 from wallwalks.changes import both_changes_check, change_check, change_of, in_order, plain
-from wallwalks.ends import finite_check, listed_check, top_of
+from wallwalks.ends import listed_check, top_of
 from wallwalks.fronts import beginnings
 from wallwalks.goldens import golden_vector
 from wallwalks.kernels import kept_by, shift_by
@@ -62,7 +62,6 @@ def lowering(walls, vectors):
 def mirrors(change):
     """As few walls as can be whose mirrors, one after the other, make the change."""
     change_check(change)
-    finite_check(change.table)
     walls = walls_all(change.table)
     found = []
     while change:

@@ -5,7 +5,6 @@ from wallwalks.changes import both_changes_check, change_check, change_of
 from wallwalks.counts import all_rooms
 from wallwalks.ends import is_finite_room, listed_check, top_of
 from wallwalks.errors import NotAFlip
-from wallwalks.refusals import room_check
 from wallwalks.tables import table_check
 from wallwalks.turning import axis_of, images_of, is_down, opposite, spread_by, turned, turned_by
 from wallwalks.turns import all_changes
@@ -33,7 +32,7 @@ def opposite_axis(size, button):
     return opposite(axis_of(size, button))
 
 
-def is_opposite_by(table, room):
+def is_opposite(table, room):
     """Whether the room is finite, and its top turns the axis of each of its buttons to the opposite."""
     if not is_finite_room(table, room):
         return False
@@ -42,18 +41,11 @@ def is_opposite_by(table, room):
     return all([turned_by(table.bonds, axis_of(size, s), word) == opposite_axis(size, s) for s in room])
 
 
-def is_opposite(table, room):
-    """Whether the room is opposite."""
-    table_check(table)
-    room_check(table, room)
-    return is_opposite_by(table, room)
-
-
 def opposite_rooms(table):
     """All opposite rooms, fewer buttons first, those of as many ascending."""
     table_check(table)
     sized = sorted([(len(room), room) for room in all_rooms(table.size)])
-    return tuple([room for _, room in sized if is_opposite_by(table, room)])
+    return tuple([room for _, room in sized if is_opposite(table, room)])
 
 
 def lowest_shortening(images):
