@@ -15,7 +15,7 @@ from wallwalks.changes import Change, plain
 from wallwalks.checker import accepts
 from wallwalks.crossings import crosses
 from wallwalks.ends import is_finite, is_finite_room, kinds, room_top, top
-from wallwalks.fronts import begins, common_front, facing_pair, least_continuation
+from wallwalks.fronts import beginnings, begins, common_front, facing_pair, least_continuation
 from wallwalks.laurents import letter
 from wallwalks.machines import walls_small
 from wallwalks.pairs import balanced
@@ -284,6 +284,11 @@ class WordTest(CheckCase):
         self.no(("same", text, (0, 1, 0), (1, 0, 1)), (("swap", -3),))
         self.no(("same", PAIR.text, (0, 1, 0), (1, 0, 1)), (("swap", 0),))
         self.no(("same", text, (0, 0), (0, 0)), (("swap", 0),))
+        for add in (("add", -1, 0), ("add", 3, 0), ("add", 1, -1), ("add", 1, 2), ("add", True, 0), ("add", 1, False), ("add", 1, 0, 0),
+                    ("add", "1", 0), ("add", None, 0), ("Add", 1, 0), (), ("add",), ["add", 1, 0]):
+            for at in range(4):
+                self.no(("same", text, (0, 1), (0, 1)), (add, ("drop", at)))
+        self.yes(("same", text, (0, 1), (0, 1)), (("add", 2, 0), ("drop", 2)))
         self.yes(("same", chain((2,)).text, (0, 1), (1, 0)), (("swap", 0),))
         self.yes(("same", chain((6,)).text, (0, 1) * 3, (1, 0) * 3), (("swap", 0),))
 
@@ -464,6 +469,9 @@ class SideTest(CheckCase):
         self.no(("small walls", PAIR.text, 3), (((), 0), ((), 1), ((0,), 1)))
         self.no(("small walls", PAIR.text, 4), (((), 0), ((), 1), ((0,), 1), ((1,), 0)))
         self.no(("small walls", PAIR.text, 1), (((), 0),))
+        # A wall that a button leaves where it is does not come from a known one by it.
+        self.no(("small walls", beside(PAIR, named("A1")).text, 4), (((), 0), ((), 1), ((), 2), ((0,), 1)))
+        self.yes(("small walls", beside(PAIR, named("A1")).text, 3), (((), 0), ((), 1), ((), 2)))
         for name, many in (("A3", 6), ("B3", 9), ("H3", 15), ("G2", 6), ("H4", 60)):
             table = named(name)
             roads = tuple(wall.road for wall in walls_small(table))
@@ -583,6 +591,10 @@ class RoomTest(CheckCase):
         self.no(("rooms not carried", A2.text, (0,), (1,)), (((0,), (("move", (0, 1, 0)),)),))
         self.no(("rooms not carried", A2.text, (0,), (1,)), (((0,), (("move", (0, 1, 0)),)), ((1,), (("move", (0, 1, 0)),))))
         self.assertIsNone(carrying(square, (0,), (1,)))
+        # Words that turn the axis of the button to the opposite of an axis, but not all of the piece down.
+        for word in ((1,), (0, 1), (1, 0), (0, 1, 0, 1, 0, 1), ()):
+            self.no(("rooms not carried", A2.text, (0,), (1,)), (((0,), (("move", word),)),))
+            self.no(("rooms not carried", text, (0,), (1,)), (((0,), (("move", word),)),))
 
     def test_rows_of_endless_pieces(self):
         claim = ("rooms not carried", PAIR.text, (0,), (1,))
@@ -599,6 +611,12 @@ class RoomTest(CheckCase):
         self.yes(claim, (((0,), rows),))
         self.no(claim, (((0,), (rows[0], ("endless", (0, 1), ("1", "1")), rows[2])),))
         self.no(claim, (((0,), (rows[0], rows[2], rows[1])),))
+        # All of them, even where others are tied with the piece.
+        table = chain((0, 3))
+        claim = ("rooms not carried", table.text, (2,), (0,))
+        both = (("move", (0,)), ("move", (1, 2, 1))), (("endless", (0, 1), ("1", "1")), ("move", (1, 2, 1)))
+        self.yes(claim, (((2,), both[0]), ((1,), both[1])))
+        self.no(claim, (((2,), (both[1][0], both[0][1])), ((1,), both[1])))
         # It need not be the whole piece.
         table = chain((0, 3))
         claim = ("rooms not carried", table.text, (0, 1), (0, 2))
@@ -690,6 +708,11 @@ class TurnTest(CheckCase):
         self.yes(("one quotient", text, behind, behind, (), ()), (behind, behind * 2, (), ()))
         self.no(("one quotient", text, behind, behind, (), ()), (behind * 2 + (0,), behind * 3 + (0,), (), ()))
         self.yes(("one quotient", text, behind, (), behind, ()), (behind, behind, (("swap", 0), ("swap", 0)), ()))
+        # Words between steps have at most 120 buttons; with fewer than two steps there are none.
+        further, (one, other) = behind + (0,), ((("swap", 0),), (("swap", 0), ("swap", 0)))
+        self.yes(("one quotient", text, behind, (), behind, ()), (further, further, (), ()))
+        self.yes(("one quotient", text, behind, (), (1, 0, 1) + behind[3:], ()), (further, further, one, ()))
+        self.no(("one quotient", text, behind, (), behind, ()), (further, further, other, ()))
 
     def test_orders(self):
         rng = chance(352)
@@ -780,6 +803,14 @@ class TurnTest(CheckCase):
         self.yes(("balanced", named("B4").text, (), (((), "1q0"),)), ())
         self.yes(("balanced", named("A1").text, (0,), (((), "1q0"), ((0,), "1q0"))), ())
         self.no(("balanced", named("A1").text, (0,), (((), "1q0"), ((0,), "1q0"), ((0, 0, 0), "1q0"))), ())
+
+    def test_numbers_of_terms(self):
+        for name, fine in (("A4", True), ("H3", True), ("D4", False), ("B4", False)):
+            table = named(name)
+            # With the top, all weaves are 1.
+            terms = tuple((change.word, "1q0") for change in beginnings(top(table)))
+            self.assertEqual(len(terms) <= 120, fine)
+            self.assertIs(accepts(("balanced", table.text, top(table).word, terms), ()), fine)
 
     def test_sums_of_balanced_blends_are_none(self):
         """C(w) and as much of a shorter C(z) is invariant only with a power of q; the bounds of the powers bar these."""

@@ -136,12 +136,12 @@ def certify_front(change, other):
 def certify_continuation(change, other, most):
     """The least continuation of two changes, or walls face to face that bar it; None if neither is found."""
     further = least_continuation(change, other, most)
-    pair = facing_pair(change, other) if further is None else None
-    if further is None and pair is None:
+    if further is not None:
+        return ("least continuation", change.table.text, change.word, other.word, further.word), ()
+    pair = facing_pair(change, other)
+    if pair is None:
         return None
     lengths_check((change.word, other.word), MOST_WORD)
-    if pair is None:
-        return ("least continuation", change.table.text, change.word, other.word, further.word), ()
     return ("no continuation", change.table.text, change.word, other.word), pair[0].road + pair[1].road
 
 

@@ -173,7 +173,7 @@ def added_at(ground, word, step):
 
 def behind_step(ground, word, step, kinds):
     """The word behind a step of these kinds; None if the value is none that can be done at the word."""
-    if not isinstance(step, tuple) or len(step) < 2 or not isinstance(step[0], str) or step[0] not in kinds:
+    if not isinstance(step, tuple) or not step or not isinstance(step[0], str) or step[0] not in kinds:
         return None
     if step[0] == "add":
         return added_at(ground, word, step)

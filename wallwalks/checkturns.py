@@ -140,8 +140,7 @@ def is_fitting_term(word, other, laurent):
     """Whether a balanced blend of a first word may have this laurent at another one."""
     if other == word:
         return laurent == Laurent(0, (1,))
-    further = len(word) - len(other)
-    return further > 0 and laurent.lowest >= 0 and 2 * laurent.highest < further
+    return laurent.lowest >= 0 and 2 * laurent.highest < len(word) - len(other)
 
 
 def fits_balanced(ground, certificate, parts):
