@@ -3,7 +3,7 @@
 import unittest
 
 import oracle
-from oracle import CallCase, Odd, chance, odd_values, random_ties, random_word
+from oracle import CallCase, chance, odd_values, random_ties, random_word
 from wallwalks.benches import Bench
 from wallwalks.changes import Change, plain
 from wallwalks.errors import InvalidDeed, InvalidWord, NotATable, NothingToUndo
@@ -122,8 +122,9 @@ class BenchTest(BenchCase):
         self.assertIs(bench == bench, True)
         self.assertIs(bench == other, False)
         self.assertIs(bench != other, True)
-        for value in odd_values(but=(lambda v: isinstance(v, Odd),)):
+        for value in odd_values() + [other]:
             self.assertIs(bench == value, False)
+            self.assertIs(bench != value, True)
 
     def test_what_is_refused_leaves_all_as_it_was(self):
         for value in odd_values() + [plain(RING)]:

@@ -2,7 +2,7 @@
 
 import unittest
 
-from oracle import CallCase, Odd, chance, odd_values, random_word
+from oracle import CallCase, chance, odd_values, random_word
 from wallwalks.benches import Bench
 from wallwalks.changes import Change
 from wallwalks.consoles import Console
@@ -111,11 +111,11 @@ class ConsoleTest(CallCase):
 
     def test_each_call_makes_a_new_one(self):
         bench = Bench(RING)
-        self.assertIs(Console(bench) == Console(bench), False)
-        console = Console(bench)
+        console, other = Console(bench), Console(bench)
         self.assertIs(console == console, True)
-        for value in odd_values(but=(lambda v: isinstance(v, Odd),)):
+        for value in odd_values() + [other]:
             self.assertIs(console == value, False)
+            self.assertIs(console != value, True)
 
 
 if __name__ == "__main__":

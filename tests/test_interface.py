@@ -141,14 +141,14 @@ CLASSES = {
     ),
     ("benches", "Bench"): (
         "(table)", ("table", "now", "home", "log"),
-        ("do(deed)", "press(word)", "undo()", "go_home()", "trial()", "tried(action)"), (), ("__len__", "__bool__"),
+        ("do(deed)", "press(word)", "undo()", "go_home()", "trial()", "tried(action)"), (), ("__len__", "__bool__", "__eq__"),
     ),
     ("shelves", "Shelf"): (
         "(table)", ("table", "names", "wishes", "deeds"),
         ("put(name, change)", "put_all(pairs)", "named(name)", "drop(name)", "wish(wish)", "free(index)", "undo()", "trial()",
-         "tried(action)"), (), ("__len__", "__bool__", "__contains__"),
+         "tried(action)"), (), ("__len__", "__bool__", "__contains__", "__eq__"),
     ),
-    ("consoles", "Console"): ("(bench)", ("bench",), ("say(line)",), (), ()),
+    ("consoles", "Console"): ("(bench)", ("bench",), ("say(line)",), (), ("__eq__",)),
 }
 
 

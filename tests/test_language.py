@@ -160,7 +160,7 @@ class LanguageTest(unittest.TestCase):
                 self.assertIsInstance(node.right, ast.Constant)
             if isinstance(node, ast.Compare):
                 for op, side in zip(node.ops, node.comparators):
-                    if isinstance(op, (ast.Is, ast.IsNot)):
+                    if isinstance(op, (ast.Is, ast.IsNot)) and ast.unparse(node.left) != "self":
                         self.assertIsInstance(side, ast.Constant)
             if isinstance(node, ast.AugAssign):
                 self.assertIsInstance(node.target, ast.Name)

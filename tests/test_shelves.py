@@ -2,7 +2,7 @@
 
 import unittest
 
-from oracle import CallCase, Odd, chance, odd_values, random_word
+from oracle import CallCase, chance, odd_values, random_word
 from test_wishes import BAD, some_wishes
 from wallwalks.changes import Change, plain
 from wallwalks.errors import (
@@ -201,8 +201,9 @@ class ShelfTest(ShelfCase):
         self.assertIs(shelf == shelf, True)
         self.assertIs(shelf == other, False)
         self.assertIs(shelf != other, True)
-        for value in odd_values(but=(lambda v: isinstance(v, Odd),)):
+        for value in odd_values() + [other]:
             self.assertIs(shelf == value, False)
+            self.assertIs(shelf != value, True)
 
 
 class RefusalTest(ShelfCase):

@@ -53,6 +53,9 @@ class Bench:
         """The deeds that have not been taken back."""
         return self.held[0]
 
+    def __eq__(self, other):
+        return self is other
+
     def __len__(self):
         return len(self.held[0])
 

@@ -59,7 +59,7 @@ def deal_length(deal):
     return falls(deal)
 
 
-def counts_of(deal):
+def count_rows(deal):
     """The counts of a deal."""
     return counts_from(deal, tuple(range(len(deal))))
 
@@ -67,7 +67,7 @@ def counts_of(deal):
 def deal_counts(deal):
     """For each place a row: how many of the numbers up to there are 0 or more, 1 or more, and so on."""
     deal_check(deal)
-    return counts_of(deal)
+    return count_rows(deal)
 
 
 def is_deal_under(deal, other_deal):
@@ -75,4 +75,4 @@ def is_deal_under(deal, other_deal):
     deal_check(deal)
     deal_check(other_deal)
     as_many_check(deal, other_deal)
-    return are_never_above(counts_of(deal), counts_of(other_deal))
+    return are_never_above(count_rows(deal), count_rows(other_deal))

@@ -2,7 +2,7 @@
 
 from wallwalks.carrying import carrying, kin, piece_with
 from wallwalks.changes import Change, parting, tables_check
-from wallwalks.checkrows import MOST_HELD
+from wallwalks.checkrows import MOST_CERTIFIED
 from wallwalks.crossings import crosses
 from wallwalks.ends import climbing, is_finite, is_finite_room, kinds, room_top, top, top_of, weighing
 from wallwalks.errors import InvalidRoom, TooMany
@@ -116,7 +116,7 @@ def certify_rooms_carried(table, room, other_room):
     if change is None:
         rows = tuple([(held, move_rows(table, held)) for held in kin(table, room)])
         return ("rooms not carried", table.text, room, other_room), rows
-    lengths_check((change.word,), MOST_HELD)
+    lengths_check((change.word,), MOST_CERTIFIED)
     return ("rooms carried", table.text, room, other_room), change.word
 
 

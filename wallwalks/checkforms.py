@@ -1,8 +1,8 @@
 """Which values stand where in claims and certificates, by their forms alone."""
 
-from wallwalks.checkrows import MOST_HELD
+from wallwalks.checkrows import MOST_CERTIFIED
 from wallwalks.goldens import parts_of_text
-from wallwalks.laurents import terms_of_text
+from wallwalks.laurents import laurent_of_text
 from wallwalks.limits import MOST_ORDER, MOST_UNDER, MOST_WORD
 from wallwalks.refusals import is_room, is_whole, is_whole_within, is_word
 from wallwalks.turning import NOUGHT, pair_sign
@@ -35,7 +35,7 @@ def is_top_word(ground, value):
 
 def is_held_word(ground, value):
     """Whether a value is a word of a certificate."""
-    return is_word(ground.many, value, MOST_HELD)
+    return is_word(ground.many, value, MOST_CERTIFIED)
 
 
 def is_own_button(ground, value):
@@ -77,7 +77,8 @@ def is_term(ground, value):
     """Whether a value is a pair of a word and the text of a laurent other than 0."""
     if not is_tuple_of(value, 2) or not is_claim_word(ground, value[0]):
         return False
-    return bool(terms_of_text(value[1]))
+    laurent = laurent_of_text(value[1])
+    return laurent is not None and bool(laurent)
 
 
 def are_terms(ground, value):

@@ -10,7 +10,7 @@ from wallwalks.tables import weight
 from wallwalks.turning import NOUGHT, ONE, pair_product, pair_sign
 
 # Words in certificates, and words between steps, have at most so many buttons.
-MOST_HELD = 120
+MOST_CERTIFIED = 120
 
 PLAIN_SWAPS = ("swap",)
 ALL_STEPS = ("swap", "drop", "add")
@@ -190,7 +190,7 @@ def led_by_steps(ground, word, steps, kinds):
     if not isinstance(steps, tuple) or len(steps) > MOST_STEPS:
         return None
     for at, step in enumerate(steps):
-        if at > 0 and len(word) > MOST_HELD:
+        if at > 0 and len(word) > MOST_CERTIFIED:
             return None
         word = behind_step(ground, word, step, kinds)
         if word is None:

@@ -8,7 +8,7 @@ from wallwalks.checkrows import (
 )
 from wallwalks.ends import how_many
 from wallwalks.kernels import shift_by
-from wallwalks.laurents import Laurent, letter
+from wallwalks.laurents import Laurent, laurent_of_text, letter
 from wallwalks.limits import MOST_CHANGES, MOST_ORDER
 from wallwalks.sums import Blend
 from wallwalks.tables import Table
@@ -149,7 +149,7 @@ def fits_balanced(ground, certificate, parts):
     if not is_nothing(certificate) or not 1 <= how_many(table) <= MOST_CHANGES:
         return False
     word = own_first_word(ground, parts[0])
-    terms = [(own_first_word(ground, held), Laurent.read(text)) for held, text in parts[1]]
+    terms = [(own_first_word(ground, held), laurent_of_text(text)) for held, text in parts[1]]
     laurents = {held: laurent for held, laurent in terms}
     if len(laurents) != len(terms) or word not in laurents:
         return False

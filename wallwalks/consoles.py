@@ -107,6 +107,9 @@ class Console:
         """The bench."""
         return self._bench
 
+    def __eq__(self, other):
+        return self is other
+
     def say(self, line):
         """Do a line, and return its answer."""
         if not isinstance(line, str):

@@ -93,14 +93,10 @@ class Laurent:
     @staticmethod
     def read(text):
         """The laurent with this text."""
-        terms = terms_of_text(text)
-        if terms is None:
+        laurent = laurent_of_text(text)
+        if laurent is None:
             raise InvalidText(text)
-        if not terms:
-            return Laurent(0, ())
-        numbers = {power: number for power, number in terms}
-        lowest = terms[0][0]
-        return laurent_with(lowest, [numbers.get(power, 0) for power in range(lowest, terms[-1][0] + 1)])
+        return laurent
 
     def __eq__(self, other):
         return (
@@ -167,6 +163,16 @@ def laurent_with(lowest, coefficients):
     made._lowest = cut[0]
     made._coefficients = cut[1]
     return made
+
+
+def laurent_of_text(text):
+    """The laurent with this text; None for what is no such text."""
+    terms = terms_of_text(text)
+    if not terms:
+        return None if terms is None else Laurent(0, ())
+    numbers = {power: number for power, number in terms}
+    lowest = terms[0][0]
+    return laurent_with(lowest, [numbers.get(power, 0) for power in range(lowest, terms[-1][0] + 1)])
 
 
 def is_laurent(value):

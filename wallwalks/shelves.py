@@ -51,6 +51,9 @@ class Shelf:
         """How many deeds can be taken back."""
         return len(self.held) - 1
 
+    def __eq__(self, other):
+        return self is other
+
     def __len__(self):
         return len(self.held[-1][0])
 
@@ -77,6 +80,7 @@ class Shelf:
         self._put_pairs(pairs)
 
     def _put_pairs(self, pairs):
+        """Put changes under names, by one deed."""
         changes = self._changes()
         for name, change in pairs:
             changes[name] = change
@@ -86,9 +90,11 @@ class Shelf:
         self._go_on(tuple([(name, changes[name]) for name in sorted(list(changes))]), self.wishes)
 
     def _changes(self):
+        """The changes under their names, as a dict."""
         return {name: change for name, change in self.held[-1][0]}
 
     def _go_on(self, pairs, wishes):
+        """Do a deed that leads to another state."""
         self.held = self.held + ((pairs, wishes),)
 
     def named(self, name):
@@ -97,6 +103,7 @@ class Shelf:
         return self._changes()[name]
 
     def _name_check(self, name):
+        """Refuse what is no name here."""
         if name not in self:
             raise UnknownName(name)
 

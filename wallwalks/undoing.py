@@ -10,20 +10,15 @@ from wallwalks.turning import axis_of, images_of, is_down, opposite, spread_by, 
 from wallwalks.turns import all_changes
 
 
-def is_own_inverse(change):
-    """Whether the change is its own inverse."""
-    return change == change.inverse()
-
-
 def is_flip(change):
     """Whether the change is its own inverse."""
     change_check(change)
-    return is_own_inverse(change)
+    return change == change.inverse()
 
 
 def flip_check(change):
     """Refuse a change that is no flip."""
-    if not is_own_inverse(change):
+    if not is_flip(change):
         raise NotAFlip(change)
 
 
@@ -96,4 +91,4 @@ def flip_carrier(change, other):
 def flips(table):
     """All flips of a finite table, in order."""
     listed_check(table)
-    return tuple([change for change in all_changes(table) if is_own_inverse(change)])
+    return tuple([change for change in all_changes(table) if is_flip(change)])
